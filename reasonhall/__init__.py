@@ -1,1 +1,1 @@
-"""Reasons: why a literal follows from a set of rules, told so that anybody can check it."""
+"""Reasons: why a literal follows from a set of rules, and how rules are defended, so that anybody can check it."""

@@ -1,6 +1,7 @@
 """Cases: a text's lines are entered one by one into a draft, and a draft without fault is numbered."""
 
 from reasonhall.lines import OPPOSITE, Clause, atom_of, line_end, read_clause, read_weight, sign_table, words_of
+from reasonhall.rulesets import set_of
 from reasonhall.steps import LAW_HEAD, Step, literal_rounds
 
 MOST_LAWS = 64
@@ -30,13 +31,14 @@ class Draft:
 
 class Case:
     """A case by numbers: its atoms in order, its laws and rules in order (their literals as numbers), and
-    for each rule the literal that its name is."""
+    for each rule the literal that its name is and the set of rules that it outweighs."""
 
-    def __init__(self, atoms, laws, rules, names):
+    def __init__(self, atoms, laws, rules, names, outweighed):
         self.atoms = atoms
         self.laws = laws
         self.rules = rules
         self.names = names
+        self.outweighed = outweighed
 
 
 def stands_before(clause, kin):
@@ -166,14 +168,21 @@ def numbered_clause(clause, numbers):
     return Clause(clause.name, tuple([numbers[literal] for literal in clause.body]), numbers[clause.head])
 
 
+def numbered_rules(names, order):
+    """The set of the rules with these names, which are numbered by the order."""
+    return set_of([order.index(name) for name in names])
+
+
 def numbered_case(draft):
     # Texts of these signs are in order just as their bytes are, a beginning first.
     atoms = sorted(draft.atoms)
     numbers = literal_numbers(atoms)
     laws = [numbered_clause(draft.laws[name], numbers) for name in sorted(draft.laws)]
-    rules = [numbered_clause(draft.rules[name], numbers) for name in sorted(draft.rules)]
-    names = [numbers[rule.name] for rule in rules]
-    return Case(atoms, laws, rules, names)
+    order = sorted(draft.rules)
+    rules = [numbered_clause(draft.rules[name], numbers) for name in order]
+    names = [numbers[name] for name in order]
+    outweighed = [numbered_rules(draft.outweighed[name], order) for name in order]
+    return Case(atoms, laws, rules, names, outweighed)
 
 
 def read_case(t):

@@ -1,7 +1,8 @@
 """The calls: each takes what it is asked about and a case's text, and answers a list of whole numbers."""
 
 from reasonhall.cases import read_case
-from reasonhall.derivations import possible_steps, told_derivation
+from reasonhall.derivations import derivation_fault, possible_steps, told_derivation
+from reasonhall.rankings import ranking_fault
 from reasonhall.steps import literal_rounds
 
 MOST_BYTES = 8192
@@ -11,16 +12,34 @@ OUT_OF_RANGE = -1
 NONE_THERE = -3
 NO_CASE = -6
 
+NO = 0
+YES = 1
 
-def refusal_of(rules, literal, t, case):
-    """The first refusal that holds of a set, a literal and a text, as which case was read; else TAKEN."""
+
+def text_refusal(t, case):
+    """The first refusal that holds of a text, as which case was read; else TAKEN."""
     if len(t) > MOST_BYTES:
         return OUT_OF_RANGE
     if case is None:
         return NO_CASE
+    return TAKEN
+
+
+def refusal_of(rules, literal, t, case):
+    """The first refusal that holds of a set, a literal and a text, as which case was read; else TAKEN."""
+    refusal = text_refusal(t, case)
+    if refusal != TAKEN:
+        return refusal
     if rules >> len(case.rules) != 0 or literal >= 2 * len(case.atoms):
         return OUT_OF_RANGE
     return TAKEN
+
+
+def verdict(fault):
+    """What a check answers that found this fault, or none."""
+    if len(fault) == 0:
+        return [TAKEN, YES]
+    return [TAKEN, NO] + fault
 
 
 def derive(rules, literal, t):
@@ -46,3 +65,23 @@ def round_of(rules, literal, t):
     if literal not in rounds:
         return [NONE_THERE]
     return [TAKEN, rounds[literal]]
+
+
+def derived(rules, literal, t, steps):
+    """Whether the steps are a derivation of the literal from the set of rules; if not, their fault."""
+    case = read_case(t)
+    refusal = refusal_of(rules, literal, t, case)
+    if refusal != TAKEN:
+        return [refusal]
+    return verdict(derivation_fault(case, rules, literal, steps))
+
+
+def ranked(rules, t, ranks):
+    """Whether the set of rules with these ranks is a ranked set; if not, its fault."""
+    case = read_case(t)
+    refusal = text_refusal(t, case)
+    if refusal != TAKEN:
+        return [refusal]
+    if len(ranks) != len(case.rules):
+        return [OUT_OF_RANGE]
+    return verdict(ranking_fault(case, rules, ranks))

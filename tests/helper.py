@@ -1,13 +1,15 @@
-"""What the tests share: texts as bytes, and a second reading of "Cases" and "Derivations" to check against.
+"""What the tests share: texts as bytes, texts made up, and a second reading of the document to check against.
 
 The reading here goes by other ways than the program (patterns for lines, least numbers for rounds, closed
-sets of literals for what follows), so that a mistake in one is seen by the other.
+sets of literals for what follows, all sets in the place of the least ones for strikes and defence), so that
+a mistake in one is seen by the other.
 """
 
 import re
 
 from reasonhall.cases import Draft, enter_text
 
+WEIGHT = re.compile(r"weigh ([a-z0-9-]+) > ([a-z0-9-]+)")
 CLAUSE = re.compile(r"(law|rule) ([a-z0-9-]+):((?: ~?[a-z0-9-]+,)*(?: ~?[a-z0-9-]+)?) (?:->|=>) (~?[a-z0-9-]+)")
 
 
@@ -20,11 +22,48 @@ def fault_of(text):
     return enter_text(Draft(), t)
 
 
+def full_text(length):
+    """A text without fault of that many bytes, by a head's name and by weights told again and again."""
+    rest = (length - 26) % 12
+    text = f"rule a: => {'p' * (rest + 1)}\nrule b: => q\n"
+    return bytes_of(text + "weigh a > b\n" * ((length - 26) // 12))
+
+
+def random_text(source, atoms, laws, rules, longest):
+    """A text without fault, of names that are not in the order of the lines."""
+    heads = [sign + atom for atom in atoms for sign in ("", "~")]
+    own = source.sample([f"{a}{b}" for a in "bdp" for b in ("", "-", "0", "a", "-x")], laws + rules)
+    own = [name + "u" for name in own[:laws]] + own[laws:]
+    literals = heads + own[laws:] + ["~" + name for name in own[laws:]]
+    text = ""
+    for place, name in enumerate(own):
+        body = source.sample(literals, source.choice([0, 1, 1, 2, longest]))
+        sort, arrow = ("law", "->") if place < laws else ("rule", "=>")
+        head = source.choice(literals)
+        row = f"{sort} {name}: {', '.join(body)}{' ' if body else ''}{arrow} {head}\n"
+        if fault_of(text + row) is None:
+            text = row + text if fault_of(row + text) is None and source.random() < 0.5 else text + row
+    return text
+
+
+def with_weights(source, text, count):
+    """The text, and behind it that many weights at the most between its rules."""
+    names = re.findall(r"^rule ([a-z0-9-]+):", text, re.MULTILINE)
+    for _ in range(count):
+        row = f"weigh {source.choice(names)} > {source.choice(names)}\n"
+        if fault_of(text + row) is None:
+            text = text + row
+    return text
+
+
 class PlainCase:
     """A text without fault: atoms, laws and rules in order, literals by their numbers."""
 
     def __init__(self, text):
         found = [CLAUSE.fullmatch(row) for row in text.splitlines() if not row.startswith("weigh ")]
+        self.weights = [WEIGHT.fullmatch(row) for row in text.splitlines() if row.startswith("weigh ")]
+        self.weights = [(m[1], m[2]) for m in self.weights]
+        self.known = {}
         told = [(m[1], m[2], re.findall(r"~?[a-z][a-z0-9-]*", m[3]), m[4]) for m in found]
         names = {literal.lstrip("~") for row in told for literal in row[2] + [row[3]]}
         names |= {row[1] for row in told if row[0] == "rule"}
@@ -114,3 +153,89 @@ class PlainCase:
             if place < len(read) - 1 and not any(head in later for later, _ in read[place + 1:]):
                 return False
         return yielded[-1] == literal
+
+    def derivation_fault(self, rules, literal, row):
+        """Word for word what "The calls" says of derived's faults; None if it's a derivation."""
+        steps = list(zip(row[::2], row[1::2]))
+        if not 1 <= len(steps) <= 256:
+            return [4, 0]
+        yielded = []
+        bodies = []
+        for place, one in enumerate(steps):
+            read = self.step(*one, rules)
+            if read is None:
+                return [1, place]
+            if set(read[0]) - set(yielded):
+                return [2, place]
+            if read[1] in yielded:
+                return [3, place]
+            bodies.append(read[0])
+            yielded.append(read[1])
+        for place in range(len(steps) - 1):
+            if yielded[place] not in sum(bodies[place + 1:], []):
+                return [5, place]
+        return None if yielded[-1] == literal else [6, len(steps) - 1]
+
+    def members(self, rules):
+        return [number for number in range(len(self.rules)) if rules >> number & 1]
+
+    def once(self, *asked):
+        """What a method answers, asked for the same only once: cases are not changed."""
+        if asked not in self.known:
+            self.known[asked] = asked[0](self, *asked[1:])
+        return self.known[asked]
+
+    def outweighs(self, one, other):
+        """Whether there's a way from the one rule to the other by the weights that are told."""
+        names = [rule[0] for rule in self.rules]
+        at = {names[one]}
+        for _ in names:
+            at |= {lighter for heavier, lighter in self.weights if heavier in at}
+        return one != other and names[other] in at
+
+    def clashes(self, rules):
+        follow = self.rounds(rules)
+        return any(literal ^ 1 in follow for literal in follow)
+
+    def strikes(self, rules, number):
+        for part in self.sets():
+            if part & ~rules or part >> number & 1:
+                continue
+            if any(self.once(PlainCase.outweighs, number, one) for one in self.members(part)):
+                continue
+            if not self.once(PlainCase.clashes, part) and self.once(PlainCase.clashes, part | 1 << number):
+                return True
+        return False
+
+    def struck(self, rules):
+        return {number for number in self.members(-1) if self.once(PlainCase.strikes, rules, number)}
+
+    def defends(self, rules, number):
+        struck = self.once(PlainCase.struck, rules)
+        striking = [one for one in self.sets() if self.once(PlainCase.strikes, one, number)]
+        return all(struck & set(self.members(one)) for one in striking)
+
+    def ranking_fault(self, rules, ranks):
+        """Word for word what "The calls" says of ranked's faults; None if it's a ranked set."""
+        if rules not in self.sets():
+            return [0, 0]
+        members = self.members(rules)
+        for number, rank in enumerate(ranks):
+            if rank not in (range(1, 11) if number in members else [0]):
+                return [1, number]
+        for number in members:
+            lesser = sum(1 << one for one in members if ranks[one] < ranks[number])
+            if not self.once(PlainCase.defends, lesser, number):
+                return [2, number]
+        return None
+
+    def ground_ranks(self):
+        """Of each rule its rank, by the rounds; 0 of one that isn't in the ground."""
+        ranks = [0] * len(self.rules)
+        before, now, latest = None, 0, 0
+        while now != before:
+            before, latest = now, latest + 1
+            now = sum(1 << one for one in self.members(-1) if self.once(PlainCase.defends, before, one))
+            for one in self.members(now):
+                ranks[one] = ranks[one] or latest
+        return ranks

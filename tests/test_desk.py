@@ -5,35 +5,11 @@ import random
 import unittest
 
 from reasonhall.desk import derive, round_of
-from tests.helper import PlainCase, bytes_of, fault_of
+from tests.helper import PlainCase, bytes_of, full_text, random_text
 
 # Numbers: atoms a 0, b 1, p 2, q 3, r 4, s 5; laws x 0, y 1; rules a 0, b 1.
 SMALL = "law x: -> p\nlaw y: p, q -> r\nrule a: p => q\nrule b: r, ~a => s\n"
 P, Q, R, S = 4, 6, 8, 10
-
-
-def full_text(length):
-    """A text without fault of that many bytes, by a head's name and by weights told again and again."""
-    rest = (length - 26) % 12
-    text = f"rule a: => {'p' * (rest + 1)}\nrule b: => q\n"
-    return bytes_of(text + "weigh a > b\n" * ((length - 26) // 12))
-
-
-def random_text(source, atoms, laws, rules, longest):
-    """A text without fault, of names that are not in the order of the lines."""
-    heads = [sign + atom for atom in atoms for sign in ("", "~")]
-    own = source.sample([f"{a}{b}" for a in "bdp" for b in ("", "-", "0", "a", "-x")], laws + rules)
-    own = [name + "u" for name in own[:laws]] + own[laws:]
-    literals = heads + own[laws:] + ["~" + name for name in own[laws:]]
-    text = ""
-    for place, name in enumerate(own):
-        body = source.sample(literals, source.choice([0, 1, 1, 2, longest]))
-        sort, arrow = ("law", "->") if place < laws else ("rule", "=>")
-        head = source.choice(literals)
-        row = f"{sort} {name}: {', '.join(body)}{' ' if body else ''}{arrow} {head}\n"
-        if fault_of(text + row) is None:
-            text = row + text if fault_of(row + text) is None and source.random() < 0.5 else text + row
-    return text
 
 
 class Told(unittest.TestCase):
