@@ -3,6 +3,7 @@
 from reasonhall.cases import read_case
 from reasonhall.derivations import derivation_fault, possible_steps, told_derivation
 from reasonhall.rankings import ranking_fault
+from reasonhall.reasons import reason_fault, told_reason
 from reasonhall.steps import literal_rounds
 
 MOST_BYTES = 8192
@@ -25,14 +26,20 @@ def text_refusal(t, case):
     return TAKEN
 
 
+def literal_refusal(literal, t, case):
+    """The first refusal that holds of a literal and a text, as which case was read; else TAKEN."""
+    refusal = text_refusal(t, case)
+    if refusal == TAKEN and literal >= 2 * len(case.atoms):
+        return OUT_OF_RANGE
+    return refusal
+
+
 def refusal_of(rules, literal, t, case):
     """The first refusal that holds of a set, a literal and a text, as which case was read; else TAKEN."""
-    refusal = text_refusal(t, case)
-    if refusal != TAKEN:
-        return refusal
-    if rules >> len(case.rules) != 0 or literal >= 2 * len(case.atoms):
+    refusal = literal_refusal(literal, t, case)
+    if refusal == TAKEN and rules >> len(case.rules) != 0:
         return OUT_OF_RANGE
-    return TAKEN
+    return refusal
 
 
 def verdict(fault):
@@ -85,3 +92,26 @@ def ranked(rules, t, ranks):
     if len(ranks) != len(case.rules):
         return [OUT_OF_RANGE]
     return verdict(ranking_fault(case, rules, ranks))
+
+
+def reason(literal, t):
+    """The reason told that the literal stands: the set of rules, their ranks, the steps."""
+    case = read_case(t)
+    refusal = literal_refusal(literal, t, case)
+    if refusal != TAKEN:
+        return [refusal]
+    told = told_reason(case, literal)
+    if told is None:
+        return [NONE_THERE]
+    return [TAKEN] + told
+
+
+def reasoned(literal, rules, t, ranks, steps):
+    """Whether set, ranks and steps are a reason that the literal stands; if not, their fault."""
+    case = read_case(t)
+    refusal = literal_refusal(literal, t, case)
+    if refusal != TAKEN:
+        return [refusal]
+    if len(ranks) != len(case.rules):
+        return [OUT_OF_RANGE]
+    return verdict(reason_fault(case, literal, rules, ranks, steps))

@@ -1,7 +1,7 @@
-"""Ranked sets: sets of rules each of which is defended by those of lesser ranks."""
+"""Ranked sets: sets of rules each of which is defended by those of lesser ranks; least ranks, and the ground."""
 
 from reasonhall.rulesets import has_rule, members_of, set_of
-from reasonhall.strikes import all_strikers, defends
+from reasonhall.strikes import all_strikers, defended_by, followers
 
 HIGHEST_RANK = 10
 
@@ -27,11 +27,11 @@ def wrong_rank_fault(rules, ranks):
 
 def undefended_fault(case, rules, ranks):
     """The fault of the first rule that those of lesser ranks don't defend; nothing if there's none such."""
-    strikers = all_strikers(case)
+    strikers = all_strikers(case, followers(case))
     members = members_of(case, rules)
     for number in members:
         lesser = set_of([other for other in members if ranks[other] < ranks[number]])
-        if not defends(lesser, number, strikers):
+        if not has_rule(defended_by(lesser, strikers), number):
             return [NOT_DEFENDED, number]
     return []
 
@@ -44,3 +44,31 @@ def ranking_fault(case, rules, ranks):
     if len(fault) == 0:
         fault = undefended_fault(case, rules, ranks)
     return fault
+
+
+def least_ranks(rules, strikers):
+    """For each rule its least rank in the set; 0 of one that isn't in the set, or that can't have a rank there."""
+    ranks = [0] * len(strikers)
+    latest = 0
+    before = -1
+    reached = 0
+    while reached != before:
+        before = reached
+        latest = latest + 1
+        # More rules defend more, so those that have a rank already come in again.
+        reached = rules & defended_by(before, strikers)
+        for number in range(len(ranks)):
+            if ranks[number] == 0 and has_rule(reached, number):
+                ranks[number] = latest
+    return ranks
+
+
+def rules_with_rank(ranks):
+    """The set of the rules that have a rank."""
+    return set_of([number for number, rank in enumerate(ranks) if rank > 0])
+
+
+def ground_of(strikers):
+    """The ground: the rules that come in by some round where all rules may."""
+    everything = (1 << len(strikers)) - 1
+    return rules_with_rank(least_ranks(everything, strikers))

@@ -46,9 +46,9 @@ def opposites_meet(reached, atoms):
     return any([(reached >> (2 * atom)) & 3 == 3 for atom in range(atoms)])
 
 
-def clash_table(case):
-    """For each set of rules whether it clashes."""
-    return [opposites_meet(reached, len(case.atoms)) for reached in followers(case)]
+def clash_table(case, following):
+    """For each set of rules whether it clashes; following tells for each what follows from it, as bits."""
+    return [opposites_meet(reached, len(case.atoms)) for reached in following]
 
 
 def strikers_of(number, outweighed, clashing):
@@ -63,9 +63,9 @@ def strikers_of(number, outweighed, clashing):
     return found
 
 
-def all_strikers(case):
-    """For each rule of the case its strikers."""
-    clashing = clash_table(case)
+def all_strikers(case, following):
+    """For each rule of the case its strikers; following tells for each set what follows from it, as bits."""
+    clashing = clash_table(case, following)
     return [strikers_of(number, outweighed, clashing) for number, outweighed in enumerate(case.outweighed)]
 
 
@@ -79,8 +79,13 @@ def struck_by(rules, strikers):
     return set_of([number for number, own in enumerate(strikers) if has_striker(rules, own)])
 
 
-def defends(rules, number, strikers):
-    """Whether the set of rules defends the rule, all rules of the case being there."""
+def all_meet(own_strikers, struck):
+    """Whether each of a rule's own strikers has a rule that is among the struck ones."""
+    return all([one & struck != 0 for one in own_strikers])
+
+
+def defended_by(rules, strikers):
+    """The set of the rules that the set of rules defends, all rules of the case being there."""
     struck = struck_by(rules, strikers)
-    # Every set that strikes the rule has a striker of it within, so the strikers speak for all.
-    return all([one & struck != 0 for one in strikers[number]])
+    # Every set that strikes a rule has a striker of it within, so the strikers speak for all.
+    return set_of([number for number, own in enumerate(strikers) if all_meet(own, struck)])

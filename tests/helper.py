@@ -5,12 +5,18 @@ sets of literals for what follows, all sets in the place of the least ones for s
 a mistake in one is seen by the other.
 """
 
+import itertools
 import re
 
 from reasonhall.cases import Draft, enter_text
 
 WEIGHT = re.compile(r"weigh ([a-z0-9-]+) > ([a-z0-9-]+)")
 CLAUSE = re.compile(r"(law|rule) ([a-z0-9-]+):((?: ~?[a-z0-9-]+,)*(?: ~?[a-z0-9-]+)?) (?:->|=>) (~?[a-z0-9-]+)")
+
+# Each rule strikes the next one alone: a b c d e f g h i j are the rules 0 to 9.
+CHAIN = "".join(f"rule {name}: => h{name}\n" for name in "abcdefghij")
+CHAIN += "".join(f"law x{one}: {one} -> ~{two}\n" for one, two in zip("abcdefghi", "bcdefghij"))
+WEIGHED_CHAIN = CHAIN + "".join(f"weigh {one} > {two}\n" for one, two in zip("abcdefghi", "bcdefghij"))
 
 
 def bytes_of(text):
@@ -54,6 +60,30 @@ def with_weights(source, text, count):
         if fault_of(text + row) is None:
             text = text + row
     return text
+
+
+def clause(sort, name, body, head):
+    arrow = "->" if sort == "law" else "=>"
+    return f"{sort} {name}: {body}{' ' if body else ''}{arrow} {head}\n"
+
+
+def long_chain():
+    """Ten rules and 64 laws: a's head sets off a chain of laws, the last one first, that all the others deny."""
+    text = clause("rule", "a", "", "y00")
+    text += "".join(clause("rule", name, "", f"~y{45 + place}") for place, name in enumerate("bcdefghij"))
+    text += "".join(clause("law", f"l{99 - place}", f"y{place:02}", f"y{place + 1:02}") for place in range(53))
+    rows = [", ".join(f"y{place + one:02}" for one in range(6)) for place in range(11)]
+    return text + "".join(clause("law", f"m{place:02}", body, "y53") for place, body in enumerate(rows))
+
+
+def weight_rows(names):
+    """All ways in which some of the rules may outweigh others, by weights that are told."""
+    pairs = list(itertools.permutations(names, 2))
+    bare = "".join(f"rule {name}: => {name}\n" for name in names)
+    for chosen in itertools.product((False, True), repeat=len(pairs)):
+        rows = "".join(f"weigh {one} > {two}\n" for (one, two), told in zip(pairs, chosen) if told)
+        if fault_of(bare + rows) is None:
+            yield rows
 
 
 class PlainCase:
@@ -239,3 +269,47 @@ class PlainCase:
             for one in self.members(now):
                 ranks[one] = ranks[one] or latest
         return ranks
+
+    def ground(self):
+        return sum(1 << one for one, rank in enumerate(self.ground_ranks()) if rank)
+
+    def stands(self, literal):
+        return literal in self.once(PlainCase.rounds, self.once(PlainCase.ground))
+
+    def rankings(self, rules):
+        """All rows of ranks, none above the number of the set's rules, with which it's a ranked set."""
+        highest = len(self.members(rules))
+        choices = [range(1, highest + 1) if rules >> one & 1 else [0] for one in range(len(self.rules))]
+        return [list(row) for row in itertools.product(*choices) if self.ranking_fault(rules, row) is None]
+
+    def told_reason(self, literal):
+        """The reason told, as a row, out of all sets and all their ranks; None if there's no reason."""
+        fits = [rules for rules in self.sets() if literal in self.once(PlainCase.rounds, rules)]
+        fits = [rules for rules in fits if self.once(PlainCase.rankings, rules)]
+        if not fits:
+            return None
+        rules = min(fits, key=lambda one: (len(self.members(one)), one))
+        ranks = [min(column) for column in zip(*self.once(PlainCase.rankings, rules))]
+        return [rules] + ranks + self.told(rules, literal)
+
+    def reason_fault(self, literal, rules, ranks, row):
+        """Word for word what "The calls" says of reasoned's faults; None if it's a reason."""
+        fault = self.ranking_fault(rules, ranks)
+        if fault is not None:
+            return [1] + fault
+        fault = self.derivation_fault(rules, literal, row)
+        return fault if fault is None else [2] + fault
+
+    def derivations(self, rules):
+        """All derivations from the set, of whatever literals, each built from its last step on: literal and row."""
+        steps = self.steps(rules)
+        found, waiting = [], [[one] for one in steps]
+        while waiting:
+            row = waiting.pop()
+            flat = [number for one, _, _ in row for number in one]
+            if self.is_derivation(rules, row[-1][2], flat):
+                found.append((row[-1][2], flat))
+            yielded = {head for _, _, head in row}
+            needed = {one for _, body, _ in row for one in body} - yielded
+            waiting += [[step] + row for step in steps if step[2] in needed and not yielded & set(step[1])]
+        return found

@@ -6,34 +6,18 @@ import time
 import unittest
 
 from reasonhall.desk import ranked
-from tests.helper import PlainCase, bytes_of, fault_of, full_text, random_text, with_weights
+from tests.helper import (
+    CHAIN, WEIGHED_CHAIN, PlainCase, bytes_of, clause, fault_of, full_text, long_chain, random_text, weight_rows,
+    with_weights,
+)
 
 HIGHEST = 4294967295
 YES = [0, 1]
-
-# Each rule strikes the next one alone: a b c d e f g h i j are the rules 0 to 9.
-CHAIN = "".join(f"rule {name}: => h{name}\n" for name in "abcdefghij")
-CHAIN += "".join(f"law x{one}: {one} -> ~{two}\n" for one, two in zip("abcdefghi", "bcdefghij"))
-WEIGHED_CHAIN = CHAIN + "".join(f"weigh {one} > {two}\n" for one, two in zip("abcdefghi", "bcdefghij"))
 EVERY_SECOND = 0b0101010101
 
 
 def no(kind, number):
     return [0, 0, kind, number]
-
-
-def clause(sort, name, body, head):
-    arrow = "->" if sort == "law" else "=>"
-    return f"{sort} {name}: {body}{' ' if body else ''}{arrow} {head}\n"
-
-
-def long_chain():
-    """Ten rules and 64 laws: a's head sets off a chain of laws, from the last to the first, that all the others deny."""
-    text = clause("rule", "a", "", "y00")
-    text += "".join(clause("rule", name, "", f"~y{45 + place}") for place, name in enumerate("bcdefghij"))
-    text += "".join(clause("law", f"l{99 - place}", f"y{place:02}", f"y{place + 1:02}") for place in range(53))
-    rows = [", ".join(f"y{place + one:02}" for one in range(6)) for place in range(11)]
-    return text + "".join(clause("law", f"m{place:02}", body, "y53") for place, body in enumerate(rows))
 
 
 class RankedCase(unittest.TestCase):
@@ -386,27 +370,18 @@ class Promise2(RankedCase):
             self.assertIn(one | other, found, text)
         return max(ranks)
 
-    def weight_rows(self, names):
-        """All ways in which some of the rules may outweigh others, by weights that are told."""
-        pairs = list(itertools.permutations(names, 2))
-        bare = "".join(f"rule {name}: => {name}\n" for name in names)
-        for chosen in itertools.product((False, True), repeat=len(pairs)):
-            rows = "".join(f"weigh {one} > {two}\n" for (one, two), told in zip(pairs, chosen) if told)
-            if fault_of(bare + rows) is None:
-                yield rows
-
     def test_two_rules_with_bodies(self):
         options = list(itertools.product(["", "p", "a", "~b"], ["p", "~p", "a", "~a", "~b"]))
         count = 0
         for one, two in itertools.permutations(options, 2):
-            for rows in self.weight_rows("ab"):
+            for rows in weight_rows("ab"):
                 self.check(clause("rule", "a", *one) + clause("rule", "b", *two) + rows)
                 count += 1
         self.assertEqual(count, 1140)
 
     def test_three_rules_by_their_heads(self):
         count, highest = 0, 0
-        weights = list(self.weight_rows("abc"))
+        weights = list(weight_rows("abc"))
         for heads in itertools.permutations(["p", "~p", "~a", "~b"], 3):
             text = "".join(clause("rule", name, "", head) for name, head in zip("abc", heads))
             for rows in weights:
@@ -417,7 +392,7 @@ class Promise2(RankedCase):
     def test_three_rules_by_laws_of_their_names(self):
         count, highest = 0, 0
         laws = ["law v: a -> ~b\n", "law w: b -> ~c\n", "law x: c -> ~a\n", "law y: a, b -> ~c\n"]
-        weights = list(self.weight_rows("abc"))
+        weights = list(weight_rows("abc"))
         for told in itertools.product((False, True), repeat=4):
             text = "rule a: => p\nrule b: => q\nrule c: => r\n"
             text += "".join(law for law, there in zip(laws, told) if there)
