@@ -2,8 +2,10 @@
 
 from reasonhall.cases import read_case
 from reasonhall.derivations import derivation_fault, possible_steps, told_derivation
+from reasonhall.doubts import is_doubt, told_doubt
 from reasonhall.rankings import ranking_fault
 from reasonhall.reasons import reason_fault, told_reason
+from reasonhall.rulesets import has_other_bit
 from reasonhall.steps import literal_rounds
 
 MOST_BYTES = 8192
@@ -37,7 +39,7 @@ def literal_refusal(literal, t, case):
 def refusal_of(rules, literal, t, case):
     """The first refusal that holds of a set, a literal and a text, as which case was read; else TAKEN."""
     refusal = literal_refusal(literal, t, case)
-    if refusal == TAKEN and rules >> len(case.rules) != 0:
+    if refusal == TAKEN and has_other_bit(case, rules):
         return OUT_OF_RANGE
     return refusal
 
@@ -115,3 +117,26 @@ def reasoned(literal, rules, t, ranks, steps):
     if len(ranks) != len(case.rules):
         return [OUT_OF_RANGE]
     return verdict(reason_fault(case, literal, rules, ranks, steps))
+
+
+def doubt(literal, t):
+    """The doubt told that the literal stands: a set of rules."""
+    case = read_case(t)
+    refusal = literal_refusal(literal, t, case)
+    if refusal != TAKEN:
+        return [refusal]
+    told = told_doubt(case, literal)
+    if told is None:
+        return [NONE_THERE]
+    return [TAKEN, told]
+
+
+def doubted(literal, rules, t):
+    """Whether the set of rules is a doubt that the literal stands."""
+    case = read_case(t)
+    refusal = literal_refusal(literal, t, case)
+    if refusal != TAKEN:
+        return [refusal]
+    if is_doubt(case, literal, rules):
+        return [TAKEN, YES]
+    return [TAKEN, NO]

@@ -1,6 +1,6 @@
 """Ranked sets: sets of rules each of which is defended by those of lesser ranks; least ranks, and the ground."""
 
-from reasonhall.rulesets import has_rule, members_of, set_of
+from reasonhall.rulesets import has_other_bit, has_rule, members_of, set_of
 from reasonhall.strikes import all_strikers, defended_by, followers
 
 HIGHEST_RANK = 10
@@ -38,7 +38,7 @@ def undefended_fault(case, rules, ranks):
 
 def ranking_fault(case, rules, ranks):
     """The fault that keeps the set from being a ranked set, two numbers; none if it is one."""
-    if rules >> len(case.rules) != 0:
+    if has_other_bit(case, rules):
         return [NO_RULES_BIT, 0]
     fault = wrong_rank_fault(rules, ranks)
     if len(fault) == 0:

@@ -4,7 +4,7 @@ from reasonhall.derivations import derivation_fault, possible_steps, told_deriva
 from reasonhall.rankings import ground_of, least_ranks, ranking_fault, rules_with_rank
 from reasonhall.rulesets import is_within, members_of
 from reasonhall.steps import literal_rounds
-from reasonhall.strikes import all_strikers, followers
+from reasonhall.strikes import all_strikers, followers, has_literal
 
 FALSE_RANKING = 1
 FALSE_DERIVATION = 2
@@ -14,7 +14,7 @@ def sets_for(case, literal, following, ground):
     """The sets within the ground from which the literal follows, the fewest rules first, then the least number."""
     found = []
     for rules, reached in enumerate(following):
-        if is_within(rules, ground) and (reached >> literal) & 1 == 1:
+        if is_within(rules, ground) and has_literal(reached, literal):
             found.append(rules)
     return sorted(found, key=lambda one: (len(members_of(case, one)), one))
 

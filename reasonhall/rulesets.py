@@ -11,6 +11,11 @@ def is_within(part, rules):
     return part & rules == part
 
 
+def has_other_bit(case, rules):
+    """Whether the set has a bit that's no rule's."""
+    return rules >> len(case.rules) != 0
+
+
 def members_of(case, rules):
     """The numbers of the rules that are in the set."""
     return [number for number in range(len(case.rules)) if has_rule(rules, number)]

@@ -11,6 +11,11 @@ def literal_bits(literals):
     return bits
 
 
+def has_literal(reached, literal):
+    """Whether the literal is among those that are reached, as bits."""
+    return (reached >> literal) & 1 == 1
+
+
 def clause_bits(clause):
     """A law's or rule's body and its head, both as bits."""
     return (literal_bits(clause.body), 1 << clause.head)

@@ -276,6 +276,15 @@ class PlainCase:
     def stands(self, literal):
         return literal in self.once(PlainCase.rounds, self.once(PlainCase.ground))
 
+    def is_doubt(self, literal, rules):
+        """Word for word what "Reasons" says of a doubt."""
+        if rules not in self.sets() or literal in self.once(PlainCase.rounds, rules):
+            return False
+        return all(rules >> one & 1 for one in self.members(-1) if self.once(PlainCase.defends, rules, one))
+
+    def doubts(self, literal):
+        return [rules for rules in self.sets() if self.is_doubt(literal, rules)]
+
     def rankings(self, rules):
         """All rows of ranks, none above the number of the set's rules, with which it's a ranked set."""
         highest = len(self.members(rules))
